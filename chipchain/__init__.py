@@ -1,0 +1,1 @@
+"""Chips on a chain: a board that is tested through one wire."""
