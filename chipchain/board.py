@@ -52,22 +52,21 @@ LEAST_INSTRUCTION_WIDTH = 2
 MOST_INSTRUCTION_WIDTH = 32
 
 
+# The lowest bits of a number, bit 0 first.
 def bits_of(number, width):
-    """The lowest bits of a number, bit 0 first."""
     return [(number >> k) & 1 for k in range(width)]
 
 
+# The number that has these bits, bit 0 first.
 def number_of(bits):
-    """The number that has these bits, bit 0 first."""
     number = 0
     for bit in reversed(bits):
         number = 2 * number + bit
     return number
 
 
+# A chip: its cells, its instruction, and the bits that are to be shifted.
 class Chip:
-    """A chip: its cells, its instruction, and the bits that are to be shifted."""
-
     def __init__(self, ident, width, has_id, cells):
         self.ident = ident
         self.width = width
@@ -182,9 +181,8 @@ def made_chips(chips, cells):
     return made
 
 
+# A board: it is empty until a start is accepted.
 class Board:
-    """A board: it is empty until a start is accepted."""
-
     def __init__(self):
         self.state = RESET
         self.chips = []
@@ -245,8 +243,8 @@ class Board:
             passing = chip.shift_instruction(passing)
         return passing
 
+    # The value of each net.
     def levels(self):
-        """The value of each net."""
         of_group = [1] * len(self.joined)
         for chip in self.chips:
             for net in chip.nets_driven_to_0():
@@ -264,9 +262,8 @@ class Board:
         return self.levels()[wanted]
 
 
+# Goes through the numbers of a list of calls, once.
 class Reader:
-    """Goes through the numbers of a list of calls, once."""
-
     def __init__(self, calls):
         self.calls = calls
         self.place = 0
@@ -311,8 +308,8 @@ def answer_call(board, reader):
     return board.state
 
 
+# What a new board answers to these calls: for each call a 1, then the number.
 def answers(calls):
-    """What a new board answers to these calls: for each call a 1, then the number."""
     board = Board()
     reader = Reader(calls)
     given = []
